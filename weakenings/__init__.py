@@ -1,0 +1,1 @@
+"""Weakening of axioms: axioms with ever weaker forms, and wishes about subsumptions."""
