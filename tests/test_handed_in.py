@@ -5,7 +5,8 @@ import io
 import sys
 import unittest
 
-from tests.writing import A, ALL, B, C, begins, both, keep, less, line, never, some, without
+from tests.writing import A, ALL, B, C, NONE, begins, both, check, done, flat, keep, least, less, line, mend, never
+from tests.writing import some, taken_apart, without
 from weakenings.service import answers
 
 
@@ -19,16 +20,16 @@ class Watched(list):
     append = extend = insert = pop = remove = clear = sort = reverse = refuse
 
 
-def flat(*calls):
-    return [number for call in calls for number in call]
-
-
-MIXED = flat(
+MIXED = flat([
     line(9, A, both(B, C)), less(0, 2, A, C), line(0, A, B), less(0, 1, C, A), never(A, some(0, ALL)), keep(A, B),
     keep(ALL), less(4, 1, A, A), keep(B, C), keep(C, C), never(both(some(1, B), some(1, C)), A), begins(),
-    line(3, some(1, ALL), C), less(0, 1, some(1, A), without(without(C))),
-)
-ANSWERS = [0, 1, -1, -5, 0, 0, -1, -2, 1, -7, -7, 0, 0, 1]
+    line(3, some(1, ALL), C), less(0, 1, some(1, A), without(without(C))), line(4, C, B), never(some(1, ALL), B),
+    mend(), least(), check(1, 0), check(0, 3), check(0), keep(some(1, A), B), done(), check(0), check(0, 0),
+    never(NONE, A), done(), check(1, 1),
+])
+ANSWERS = [[answer] for answer in (0, 1, -1, -5, 0, 0, -1, -2, 1, -7, -7, 0, 0, 1, 1, 0)]
+ANSWERS += [[1, 1, 0], [2, 4, 0, 1, 1, 1, 0], [1, 1, 0], [-1], [-1], [0], [1, 2], [-1], [1, 0, 0, 1]]
+ANSWERS += [[1], [-6], [0, 7, 0, 1, 0]]
 
 
 class HandedIn(unittest.TestCase):
@@ -38,19 +39,20 @@ class HandedIn(unittest.TestCase):
         self.assertEqual(calls, MIXED)
 
     def test_list_is_not_changed_for_a_while(self):
-        self.assertEqual(answers(Watched(MIXED))[1::2], ANSWERS)
+        self.assertEqual(taken_apart(answers(Watched(MIXED))), ANSWERS)
 
     def test_same_list_again(self):
         calls = list(MIXED)
         first = answers(calls)
-        self.assertEqual(first[1::2], ANSWERS)
+        self.assertEqual(taken_apart(first), ANSWERS)
         self.assertEqual(answers(calls), first)
         self.assertEqual(answers(calls), first)
 
     def test_nothing_is_kept(self):
-        self.assertEqual(answers(flat(line(1, A, B), keep(A, B))), [1, 0, 1, 0])
-        self.assertEqual(answers(flat(less(0, 1, A, B))), [1, -2])
-        self.assertEqual(answers(flat(line(1, A, B), keep(A, B), never(A, B))), [1, 0] * 3)
+        self.assertEqual(answers(flat([line(1, A, B), keep(A, B)])), [1, 0, 1, 0])
+        self.assertEqual(answers(flat([less(0, 1, A, B), check(), mend()])), [1, -2, 2, 1, 0, 1, 0])
+        self.assertEqual(answers(flat([line(1, A, B), keep(A, B), never(A, B), done()])), [1, 0] * 3 + [1, -6])
+        self.assertEqual(answers(flat([line(1, A, B), done()])), [1, 0, 2, 0, 1])
 
     def test_answers_are_a_new_list_of_whole_numbers(self):
         first = answers(MIXED)
@@ -105,13 +107,18 @@ class Depth(unittest.TestCase):
         }
         for name, concept in nested.items():
             with self.subTest(nested=name):
-                self.assertEqual(self.told(flat(line(1, ALL, concept), less(0, 1, ALL, concept))), [1, 0, 1, 1])
+                self.assertEqual(self.told(flat([line(1, ALL, concept), less(0, 1, ALL, concept)])), [1, 0, 1, 1])
+                calls = [line(1, ALL, concept), never(ALL, concept), keep(concept, ALL), check(0), done(), check()]
+                told = taken_apart(self.told(flat(calls)))
+                everything = name in ("both, left", "both, right")
+                self.assertEqual(told[3], [0, 0, 1, 1])
+                self.assertEqual(told[4:], [[-6], [-1]] if everything else [[1, 0], [1, 0, 0, 1]])
 
     def test_cut_off_deep_inside(self):
-        self.assertEqual(self.told(flat(line(1, [5] * 30), line(1, [3] * 30))), [1, -1, 1, -1])
+        self.assertEqual(self.told(flat([line(1, [5] * 30), line(1, [3] * 30)])), [1, -1, 1, -1])
 
     def test_long(self):
-        calls = flat(*[keep([3] * 14 + [0] * 16)] * 60)
+        calls = flat([keep([3] * 14 + [0] * 16)] * 60)
         self.assertEqual(self.told(calls), [1, 0, 1, 1] + [1, -7] * 58)
 
 

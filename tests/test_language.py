@@ -1,6 +1,7 @@
 """The package keeps to the small part of Python that the program is written in."""
 
 import ast
+import builtins
 import pathlib
 import re
 import unittest
@@ -100,6 +101,32 @@ class Files(unittest.TestCase):
                    if isinstance(one, ast.FunctionDef)}
         values = {node.attr for place, node in self.nodes(ast.Attribute) if isinstance(node.ctx, ast.Store)}
         self.assertFalse(methods & values)
+
+    def test_locals_are_called_like_nothing_else(self):
+        for name, tree in self.trees.items():
+            top = {target.id for one in tree.body if isinstance(one, ast.Assign) for target in one.targets}
+            top |= {one.name for one in tree.body if isinstance(one, (ast.ClassDef, ast.FunctionDef))}
+            top |= {alias.name for one in tree.body if isinstance(one, ast.ImportFrom) for alias in one.names}
+            for function in ast.walk(tree):
+                if isinstance(function, (ast.FunctionDef, ast.Lambda)):
+                    inside = {node.id for node in ast.walk(function)
+                              if isinstance(node, ast.Name) and isinstance(node.ctx, ast.Store)}
+                    inside |= {node.arg for node in ast.walk(function) if isinstance(node, ast.arg)}
+                    self.assertFalse(inside & (top | set(dir(builtins))), name)
+
+    def test_methods_are_called_like_none_of_pythons_own(self):
+        taken = {name for kind in (str, bytes, int, list, tuple, dict, set) for name in dir(kind)} - {"__init__"}
+        for place, node in self.nodes(ast.ClassDef):
+            for one in node.body:
+                self.assertFalse(isinstance(one, ast.FunctionDef) and one.name in taken, place)
+
+    def test_no_two_files_draw_from_one_another(self):
+        drawn = {name: {one.module.partition(".")[2] + ".py" for one in tree.body if isinstance(one, ast.ImportFrom)}
+                 for name, tree in self.trees.items()}
+        while drawn:
+            free = [name for name in drawn if not drawn[name] & set(drawn)]
+            self.assertTrue(free, drawn)
+            drawn = {name: drawn[name] for name in drawn if name not in free}
 
     def test_service(self):
         tree = self.trees["service.py"]

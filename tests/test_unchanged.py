@@ -2,8 +2,9 @@
 
 import unittest
 
-from tests.writing import A, ALL, B, C, D, NONE, both, keep, less, line, never, results, some
-from weakenings.errors import NoRoom, NoSuchAxiom, NotWeaker, WrongNumbers
+from tests.writing import A, ALL, B, C, D, NONE
+from tests.writing import both, check, done, keep, least, less, line, mend, never, replies, results, some
+from weakenings.errors import NoRepair, NoRoom, NoSuchAxiom, NotWeaker, WrongNumbers
 from weakenings.store import Store
 
 THREE = both(A, both(B, C))
@@ -27,6 +28,9 @@ REFUSED = {
     "never, atoms": (never(TWO_MORE, ALL), -7),
     "keep, numbers": (keep(CUT_OFF), -1),
     "keep, atoms": (keep(TWO_MORE, ALL), -7),
+    "check, no levels": (check(), -1),
+    "check, too many levels": (check(0, 0), -1),
+    "check, no such level": (check(3), -1),
 }
 
 # Each of these takes room that a refused call could have taken, up to the last that there is.
@@ -69,6 +73,25 @@ class Afterwards(unittest.TestCase):
             self.assertEqual(results(*[wish(THREE, ALL)] * 3, other(D, TWO_MORE), other(D, ALL)), [0, 1, -7, -7, 0])
 
 
+class NoWay(unittest.TestCase):
+    """mend and done, where no way satisfies all wishes."""
+
+    BEFORE = [line(9, A, both(B, C)), less(0, 2, A, B), line(5, B, D), never(A, C), keep(A, C)]
+    AFTERWARDS = [check(0, 0), check(1, 1), check(2, 1), check(3, 0), least(), less(0, 4, A, B), less(1, 1, B, D),
+                  less(2, 1, A, A), line(3, A, A), never(A, D), keep(A, A), never(A, A), check(0, 2, 1)]
+    TOLD = [[0, 0, 1, 1], [0, 7, 0, 0], [0, 16, 0, 0], [-1], [0], [2], [1], [-2], [2], [1], [1], [-7],
+            [0, 9, 1, 0, 1, 1]]
+
+    def test_same_answers_as_without(self):
+        self.assertEqual(replies(*self.BEFORE, *self.AFTERWARDS)[5:], self.TOLD)
+
+    def test_after_refusals(self):
+        for refused in ([mend()], [done()], [done(), mend()], [mend(), done(), done()]):
+            with self.subTest(refused=refused):
+                told = replies(*self.BEFORE, *refused, *self.AFTERWARDS)[5:]
+                self.assertEqual(told, [[-6]] * len(refused) + self.TOLD)
+
+
 class Inside(unittest.TestCase):
     """What is kept for later operations is as before, too."""
 
@@ -98,6 +121,12 @@ class Inside(unittest.TestCase):
             (NoRoom, lambda: full.never(A + A)),
             (WrongNumbers, lambda: full.keep(A)),
             (NoRoom, lambda: full.keep(A + A)),
+            (WrongNumbers, lambda: full.check([0, 0])),
+            (WrongNumbers, lambda: full.check([0, 0, 0, 0])),
+            (WrongNumbers, lambda: full.check([4, 0, 0])),
+            (WrongNumbers, lambda: full.check([3, 1, 2])),
+            (NoRepair, full.mend),
+            (NoRepair, full.done),
         ]
         before = self.kept(full)
         for error, call in refused:

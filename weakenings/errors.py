@@ -2,7 +2,7 @@
 
 
 class WrongNumbers(Exception):
-    """The numbers are not exactly two concepts, or the price is out of its range."""
+    """The numbers are not exactly two concepts, the price is out of its range, or the levels are no way."""
 
 
 class NoSuchAxiom(Exception):
@@ -11,6 +11,10 @@ class NoSuchAxiom(Exception):
 
 class NotWeaker(Exception):
     """The new form does not follow from the last one."""
+
+
+class NoRepair(Exception):
+    """No way satisfies all wishes."""
 
 
 class NoRoom(Exception):

@@ -90,11 +90,15 @@ class Patterns:
         """The group of patterns that have the first concept and not the second one."""
         return self.groups[pair[0]] & ~self.groups[pair[1]]
 
+    def subsumptions(self, pairs, axioms):
+        """For each pair whether its first concept is subsumed by its second one with the axioms."""
+        group = self.occurring(axioms)
+        return [group & self.against(pair) == 0 for pair in pairs]
+
 
 def is_subsumed(pair, axioms):
     """Whether the first concept of the pair is subsumed by the second one with the axioms."""
     concepts = list(pair)
     for axiom in axioms:
         concepts.extend(axiom)
-    patterns = Patterns(concepts)
-    return patterns.occurring(axioms) & patterns.against(pair) == 0
+    return Patterns(concepts).subsumptions([pair], axioms)[0]

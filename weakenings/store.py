@@ -1,27 +1,16 @@
 """What is there between the operations: the axioms with their forms, and the wishes."""
 
+from weakenings.axioms import Axiom
 from weakenings.concepts import atoms_of, two_concepts
-from weakenings.errors import NoRoom, NoSuchAxiom, NotWeaker, WrongNumbers
-from weakenings.patterns import is_subsumed
+from weakenings.errors import NoRepair, NoRoom, NoSuchAxiom, NotWeaker, WrongNumbers
+from weakenings.patterns import Patterns, is_subsumed
+from weakenings.ways import all_ways, forms_at, is_way, minimal_among, price_of
 
 MOST_AXIOMS = 3
 MOST_FORMS = 3
 MOST_WISHES = 2
 MOST_ATOMS = 5
 HIGHEST_PRICE = 1000
-
-
-class Axiom:
-    """An axiom's forms and prices; the step from level k to the level after it costs prices[k]."""
-
-    def __init__(self, price, form):
-        self.forms = [form]
-        self.prices = [price]
-
-    def weaken(self, price, form):
-        """Adds a form after the last one; the removal stays the last step and keeps its price."""
-        self.forms.append(form)
-        self.prices.insert(len(self.prices) - 1, price)
 
 
 class Store:
@@ -44,7 +33,7 @@ class Store:
         form = two_concepts(numbers)
         check_price(price)
         self.check_room(self.axioms, MOST_AXIOMS, form)
-        self.axioms.append(Axiom(price, form))
+        self.axioms.append(Axiom([form], [price]))
         return len(self.axioms) - 1
 
     def less(self, index, price, numbers):
@@ -74,6 +63,59 @@ class Store:
         self.check_room(wishes, MOST_WISHES, pair)
         wishes.append(pair)
         return len(wishes) - 1
+
+    def mend(self):
+        """The price of the repair, then its levels."""
+        return self.priced(self.repair())
+
+    def least(self):
+        """How many minimal ways there are, then of each its price and its levels."""
+        minimal = minimal_among(self.satisfying())
+        numbers = [len(minimal)]
+        for way in minimal:
+            numbers.extend(self.priced(way))
+        return numbers
+
+    def check(self, levels):
+        """Whether the way satisfies all wishes, its price, then of each wish whether its subsumption holds."""
+        if not is_way(self.axioms, levels):
+            raise WrongNumbers("not exactly one level for each axiom")
+        held = self.held_with(levels, Patterns(self.all_concepts()))
+        return [int(self.satisfied_by(held)), price_of(self.axioms, levels)] + [int(holds) for holds in held]
+
+    def done(self):
+        """Carries out the repair, and gives its price and how many axioms are left."""
+        way = self.repair()
+        price = price_of(self.axioms, way)
+        weakened = [axiom.weakened_to(level) for axiom, level in zip(self.axioms, way)]
+        self.axioms = [axiom for axiom in weakened if axiom.removal() > 0]
+        return [price, len(self.axioms)]
+
+    def priced(self, way):
+        """The way's price, then its levels."""
+        return [price_of(self.axioms, way)] + list(way)
+
+    def repair(self):
+        """The first of the ways of the lowest price that satisfy all wishes."""
+        ways = self.satisfying()
+        if not ways:
+            raise NoRepair("no way satisfies all wishes")
+        # Of several of the lowest price, the one that min meets first is given.
+        return min(ways, key=lambda way: price_of(self.axioms, way))
+
+    def satisfying(self):
+        """The ways that satisfy all wishes, in their order."""
+        patterns = Patterns(self.all_concepts())
+        return [way for way in all_ways(self.axioms) if self.satisfied_by(self.held_with(way, patterns))]
+
+    def held_with(self, way, patterns):
+        """For each unwanted and then for each wanted subsumption whether it holds with the way."""
+        return patterns.subsumptions(self.unwanted + self.wanted, forms_at(self.axioms, way))
+
+    def satisfied_by(self, held):
+        """Whether all wishes are satisfied where this is what holds of their subsumptions."""
+        count = len(self.unwanted)
+        return not any(held[:count]) and all(held[count:])
 
     def check_room(self, present, most, pair):
         """Refuses a pair that is one too many beside those present, or brings too many atoms."""
